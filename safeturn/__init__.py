@@ -1,0 +1,1 @@
+"""Safeturn: changes of programs that mean the same."""
