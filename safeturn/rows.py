@@ -27,11 +27,14 @@ def own_set(row):
     return None
 
 
+def has_rows(row):
+    """Tell whether the row has a tuple of rows within it, be it an empty one."""
+    return row[0] == "when" or row[0] == "again"
+
+
 def rows_within(row):
     """Tell the tuple of the rows that stand directly within the row."""
-    if row[0] == "when" or row[0] == "again":
-        return row[2]
-    return ()
+    return row[2] if has_rows(row) else ()
 
 
 def reads(row):

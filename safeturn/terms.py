@@ -1,6 +1,12 @@
 """Terms: the names that stand in them, and what they are worth."""
 
 RESTS_OF = 1000003
+LONGEST_NAME = 8
+
+
+def is_name(text):
+    """Tell whether the text is a name: 1 to 8 letters a to z."""
+    return 1 <= len(text) <= LONGEST_NAME and all(["a" <= sign <= "z" for sign in text])
 
 
 def names_in(term):

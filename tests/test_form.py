@@ -8,7 +8,7 @@ import unittest
 
 PACKAGE = pathlib.Path(__file__).resolve().parent.parent / "safeturn"
 
-# What the interface lists of the files that have landed: functions with their parameters.
+# What the interface lists: functions with their parameters.
 FUNCTIONS = {
     "terms": {"names_in": ["term"], "worth": ["term", "cells"]},
     "rows": {
@@ -17,6 +17,17 @@ FUNCTIONS = {
         "first_read": ["rows"],
         "surely_set": ["rows"],
         "tells": ["program", "row"],
+    },
+    "runs": {"run": ["program", "inputs"]},
+    "places": {"row_at": ["program", "place"], "needed": ["program", "place"]},
+    "turns": {
+        "renamed": ["program", "number", "old", "new"],
+        "swapped": ["program", "place"],
+    },
+    "puts": {
+        "put": ["program", "place"],
+        "folded": ["program", "place", "many", "row", "at", "function"],
+        "drawn": ["program", "place", "many", "name"],
     },
 }
 CLASSES = {
