@@ -60,10 +60,15 @@ def tells(program, row):
 
 
 def _telling(program):
-    # A call is of a function ahead, so what is called is known by then, however often it is called.
+    # Gone through until no more are found, because a function that `folded` was told may stand
+    # ahead of one that it calls.
     telling = {}
-    for function in program:
-        telling[function[0]] = any([_tells_by(telling, row) for row in function[2]])
+    known = -1
+    while known < len(telling):
+        known = len(telling)
+        for function in program:
+            if any([_tells_by(telling, row) for row in function[2]]):
+                telling[function[0]] = True
     return telling
 
 
@@ -72,7 +77,7 @@ def _tells_by(telling, row):
     if kind == "tell":
         return True
     if kind == "call":
-        return telling.get(row[2], False)
+        return row[2] in telling
     return any([_tells_by(telling, inner) for inner in rows_within(row)])
 
 

@@ -5,6 +5,7 @@ import unittest
 
 from safeturn.errors import Clash, NoCall, NoPlace, Taken, Unlike
 from safeturn.puts import folded, put
+from safeturn.turns import swapped
 from samples import (
     NO_PLACES, NOTHING, ONE, PLACES_BEHIND, ROUND, TurnCase,
     again, call, function, main, name, names, num, plus, put_to, tell, when,
@@ -51,6 +52,16 @@ class TestOutcome(FoldCase):
         self.assert_folded(program, ((2, 0), 4, ROW, 2, F), (e, g, F, called, last))
         for at in (-2, -1, 3, 4, 5, 10 ** 5000):
             self.assert_refused(NoPlace, folded, program, (2, 0), 4, ROW, at, F)
+
+    def test_a_function_told_ahead_of_one_that_it_calls(self):
+        """No refusal names it, so what comes of it still means the same, also by the change behind."""
+        g = function("g", (), (tell(num(2)),))
+        f = function("f", (), (call(None, "g"),))
+        row = call(None, "f")
+        program = (g, main(call(None, "g"), tell(ONE)))
+        outcome = (f, g, main(row, tell(ONE)))
+        self.assert_folded(program, ((1, 0), 1, row, 0, f), outcome)
+        self.assert_clash((2, 0), (2, 1), swapped, outcome, (2, 0))
 
     def test_in_the_first_function(self):
         self.assert_folded((main(*ROWS, tell(A)),), ((0, 0), 4, ROW, 0, F), (F, main(ROW, tell(A))))
